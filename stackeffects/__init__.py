@@ -1,0 +1,1 @@
+"""Rowstack: effects of words over a stack."""

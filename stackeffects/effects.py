@@ -1,0 +1,146 @@
+"""Texts of effects: which are one effect's, and where the others have their fault.
+
+A text is a list of bytes. What lies on a stack's row above its variable is called an item here.
+A token is a tuple: its kind and the place of its first byte. Its kind is the token itself if it is one
+of FIXED, else "ROW" or "ITEM" for a variable, and "BAD" for what no effect's text holds.
+"""
+
+LONGEST = 1024
+DEEPEST = 40
+
+BLANKS = (32, 9, 10, 13)
+FIXED = ("(", ")", "[", "]", ",", "--", "num", "bool", "list", "pair")
+
+# What is still awaited is a list whose last member is awaited next, so that it can be taken off the end.
+# Besides kinds of tokens it holds "item", for one item, and "items", for any number of them.
+EFFECT = ("items", "ROW", "--", "items", "ROW")
+
+# Each kind that an item can begin with, and what is awaited behind it until that item ends.
+ITEM_STARTS = {
+    "num": (),
+    "bool": (),
+    "ITEM": (),
+    "list": (")", "item", "("),
+    "pair": (")", "item", ",", "item", "("),
+    "[": ("]", "items", "ROW", "--", "items", "ROW"),
+}
+
+
+def judge(t):
+    """Answers 0 if t is an effect's text, else the refusal that is due."""
+    refusal = refusal_of(t)
+    if refusal is not None:
+        return refusal
+    return [0]
+
+
+def refusal_of(t):
+    """The refusal that is due for the text t, None if it is an effect's and not too long."""
+    if len(t) > LONGEST:
+        return [-6]
+    place = fault_place(t)
+    if place is not None:
+        return [-1, 1, place]
+    return None
+
+
+def fault_place(t):
+    """The place of the first token that can't be, the text's length if it ends too early, None without a fault."""
+    awaited = list(EFFECT)
+    for kind, place in tokens_of(t):
+        awaited = awaited_behind(kind, awaited)
+        if awaited is None or too_deep(awaited):
+            return place
+    if awaited == ["items"]:
+        return None
+    return len(t)
+
+
+def awaited_behind(kind, awaited):
+    """What is awaited when a token of this kind has come, None if it can't come."""
+    rest = list(awaited)
+    if rest[-1] == "items" and kind not in ITEM_STARTS:
+        rest.pop()
+    if rest == []:
+        return None
+    wanted = rest[-1]
+    if wanted == "items":
+        return rest + list(ITEM_STARTS[kind])
+    rest.pop()
+    if wanted == "item" and kind in ITEM_STARTS:
+        return rest + list(ITEM_STARTS[kind])
+    if wanted == kind:
+        return rest
+    return None
+
+
+def too_deep(awaited):
+    """Whether too many lists, pairs and [ ] are open: each of them awaits one sign that closes it."""
+    return awaited.count(")") + awaited.count("]") > DEEPEST
+
+
+def tokens_of(t):
+    """The tokens of the text t, from the left."""
+    tokens = []
+    place = 0
+    while place < len(t):
+        end = token_end(t, place)
+        if t[place] not in BLANKS:
+            tokens.append((kind_of(t[place:end]), place))
+        place = end
+    return tokens
+
+
+def token_end(t, place):
+    """The place behind the token, or the blank, that begins at this place."""
+    if t[place:place + 2] == bytes_of("--"):
+        return place + 2
+    end = place
+    while end < len(t) and in_run(t[end]):
+        end += 1
+    # A byte that is in no run stands by itself.
+    return max(end, place + 1)
+
+
+def kind_of(part):
+    """The kind of the token with these bytes."""
+    for kind in FIXED:
+        if part == bytes_of(kind):
+            return kind
+    if not is_variable(part):
+        return "BAD"
+    return "ROW" if is_capital(part[0]) else "ITEM"
+
+
+def is_variable(part):
+    """Whether these bytes are a letter and up to three digits without a 0 in front."""
+    digits = part[1:]
+    if not is_letter(part[0]) or len(digits) > 3:
+        return False
+    if not all([is_digit(byte) for byte in digits]):
+        return False
+    return digits == [] or digits[0] != 48
+
+
+def in_run(byte):
+    return is_letter(byte) or is_digit(byte)
+
+
+def is_letter(byte):
+    return is_capital(byte) or is_small(byte)
+
+
+def is_capital(byte):
+    return 65 <= byte <= 90
+
+
+def is_small(byte):
+    return 97 <= byte <= 122
+
+
+def is_digit(byte):
+    return 48 <= byte <= 57
+
+
+def bytes_of(text):
+    return [ord(sign) for sign in text]
