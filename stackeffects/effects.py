@@ -1,12 +1,15 @@
-"""Texts of effects: which are one effect's, and where the others have their fault.
+"""Texts of effects: which are one effect's, where the others have their fault, and the one form of an effect.
 
 A text is a list of bytes. What lies on a stack's row above its variable is called an item here.
-A token is a tuple: its kind and the place of its first byte. Its kind is the token itself if it is one
-of FIXED, else "ROW" or "ITEM" for a variable, and "BAD" for what no effect's text holds.
+A token is a tuple: its kind, its number and the place of its first byte. Its kind is the token itself if it
+is one of FIXED, else "ROW" or "ITEM" for a variable, and "BAD" for what no effect's text holds. Its number
+is a variable's own, and 0 for every other token.
 """
 
 LONGEST = 1024
 DEEPEST = 40
+HEAVIEST = 120
+LETTERS = 26
 
 BLANKS = (32, 9, 10, 13)
 FIXED = ("(", ")", "[", "]", ",", "--", "num", "bool", "list", "pair")
@@ -34,6 +37,18 @@ def judge(t):
     return [0]
 
 
+def form(t):
+    """Answers 0 and the effect's text with its variables named in order, else the refusal that is due."""
+    refusal = refusal_of(t)
+    if refusal is not None:
+        return refusal
+    tokens = tokens_of(t)
+    if weight_of(tokens) > HEAVIEST:
+        return [-5]
+    text = written(named_in_order(tokens))
+    return [0, len(text)] + text
+
+
 def refusal_of(t):
     """The refusal that is due for the text t, None if it is an effect's and not too long."""
     if len(t) > LONGEST:
@@ -47,7 +62,7 @@ def refusal_of(t):
 def fault_place(t):
     """The place of the first token that can't be, the text's length if it ends too early, None without a fault."""
     awaited = list(EFFECT)
-    for kind, place in tokens_of(t):
+    for kind, number, place in tokens_of(t):
         awaited = awaited_behind(kind, awaited)
         if awaited is None or too_deep(awaited):
             return place
@@ -86,7 +101,9 @@ def tokens_of(t):
     while place < len(t):
         end = token_end(t, place)
         if t[place] not in BLANKS:
-            tokens.append((kind_of(t[place:end]), place))
+            part = t[place:end]
+            kind = kind_of(part)
+            tokens.append((kind, number_of(kind, part), place))
         place = end
     return tokens
 
@@ -112,6 +129,20 @@ def kind_of(part):
     return "ROW" if is_capital(part[0]) else "ITEM"
 
 
+def number_of(kind, part):
+    """The number of a variable with these bytes, 0 for any other kind."""
+    if kind != "ROW" and kind != "ITEM":
+        return 0
+    rounds = 0
+    for byte in part[1:]:
+        rounds = rounds * 10 + byte - 48
+    return rounds * LETTERS + part[0] - first_letter(kind)
+
+
+def first_letter(kind):
+    return 65 if kind == "ROW" else 97
+
+
 def is_variable(part):
     """Whether these bytes are a letter and up to three digits without a 0 in front."""
     digits = part[1:]
@@ -120,6 +151,44 @@ def is_variable(part):
     if not all([is_digit(byte) for byte in digits]):
         return False
     return digits == [] or digits[0] != 48
+
+
+def weight_of(tokens):
+    """The weight of an effect: each item and each row's variable adds 1, wherever it stands."""
+    return len([kind for kind, number, place in tokens if kind == "ROW" or kind in ITEM_STARTS])
+
+
+def named_in_order(tokens):
+    """The same tokens, with each kind's numbers 0, 1, 2, ... as they are met."""
+    named = []
+    orders = {}
+    for kind, number, place in tokens:
+        order = orders.setdefault(kind, {})
+        # What is no variable has one number, 0, and so keeps it.
+        named.append((kind, order.setdefault(number, len(order)), place))
+    return named
+
+
+def written(tokens):
+    """The text of an effect's tokens, with no blanks but those that an effect is written with."""
+    text = []
+    before = ""
+    for kind, number, place in tokens:
+        if before not in ("", "(", "[", ",") and kind not in ("(", ")", "]", ","):
+            text.append(32)
+        text.extend(token_bytes(kind, number))
+        before = kind
+    return text
+
+
+def token_bytes(kind, number):
+    """The bytes of a token of this kind with this number."""
+    if kind != "ROW" and kind != "ITEM":
+        return bytes_of(kind)
+    letter = [first_letter(kind) + number % LETTERS]
+    if number < LETTERS:
+        return letter
+    return letter + bytes_of(str(number // LETTERS))
 
 
 def in_run(byte):

@@ -1,8 +1,24 @@
-"""What several test files use: texts as bytes, and a second, recursive reader of tokens to compare with."""
+"""What several test files use: texts as bytes, a check of one call, and a second, recursive reader of tokens."""
+
+import unittest
 
 
 def as_bytes(text):
     return list(text.encode("latin-1"))
+
+
+class CallCase(unittest.TestCase):
+    """Checks answers of the one function that a test file names as call."""
+
+    def answers(self, text, expected):
+        given = as_bytes(text)
+        before = list(given)
+        answer = self.call(given)
+        self.assertEqual(answer, expected, text)
+        self.assertIs(type(answer), list)
+        self.assertTrue(all(type(number) is int for number in answer), text)
+        self.assertEqual(given, before, text)
+        self.assertEqual(self.call(given), expected, text)
 
 
 BUILT_IN_EFFECTS = [

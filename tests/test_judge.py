@@ -5,28 +5,20 @@ import io
 import unittest
 
 from stackeffects.effects import judge
-from tests.helper import BUILT_IN_EFFECTS, WRAPS, as_bytes, first_wrong, nested
+from tests.helper import BUILT_IN_EFFECTS, WRAPS, CallCase, as_bytes, first_wrong, nested
 
 LETTERS_AND_DIGITS = as_bytes("ABCDEFGHIJKLMNOPQRSTUVWXYZabcdefghijklmnopqrstuvwxyz0123456789")
 BLANKS = [32, 9, 10, 13]
 
 
-class JudgeCase(unittest.TestCase):
+class JudgeCase(CallCase):
+    call = staticmethod(judge)
+
     def takes(self, text):
         self.answers(text, [0])
 
     def faults(self, text, place):
         self.answers(text, [-1, 1, place])
-
-    def answers(self, text, expected):
-        given = as_bytes(text)
-        before = list(given)
-        answer = judge(given)
-        self.assertEqual(answer, expected, text)
-        self.assertIs(type(answer), list)
-        self.assertTrue(all(type(number) is int for number in answer), text)
-        self.assertEqual(given, before, text)
-        self.assertEqual(judge(given), expected, text)
 
 
 class Ordinary(JudgeCase):
