@@ -1,4 +1,4 @@
-"""Texts of effects: which are one effect's, where the others have their fault, and the one form of an effect.
+"""Texts of effects: which are one effect's, where the others have their fault, and an effect's form and weight.
 
 A text is a list of bytes. What lies on a stack's row above its variable is called an item here.
 A token is a tuple: its kind, its number and the place of its first byte. Its kind is the token itself if it
@@ -47,6 +47,14 @@ def form(t):
         return [-5]
     text = written(named_in_order(tokens))
     return [0, len(text)] + text
+
+
+def weight(t):
+    """Answers the weight of t's effect, else the refusal that is due."""
+    refusal = refusal_of(t)
+    if refusal is not None:
+        return refusal
+    return [weight_of(tokens_of(t))]
 
 
 def refusal_of(t):

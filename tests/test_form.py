@@ -2,23 +2,12 @@
 
 import contextlib
 import io
-import random
 import re
 import unittest
 
 from stackeffects.effects import form, judge, token_bytes, tokens_of
-from tests.helper import BUILT_IN_EFFECTS, WRAPS, CallCase, as_bytes, nested
-
-BLANKS = " \t\n\r"
-
-
-def tokens(text):
-    return re.findall(r"[A-Za-z0-9]+|--|[()\[\],]", text)
-
-
-def name(first, number):
-    digits = str(number // 26) if number > 25 else ""
-    return chr(ord(first) + number % 26) + digits
+from tests.helper import (BLANKS, BUILT_IN_EFFECTS, WRAPS, CallCase, Canonical, Plain, Tree, as_bytes, name, nested,
+                          tokens)
 
 
 def spread(text, gap):
@@ -138,75 +127,6 @@ class Numbers(unittest.TestCase):
         for number in range(26000):
             self.assertEqual(token_bytes("ROW", number), as_bytes(name("A", number)))
             self.assertEqual(tokens_of(token_bytes("ITEM", number)), [("ITEM", number, 0)])
-
-
-class Tree:
-    """Effects made at random, from a fixed start, and written without a look at the program."""
-
-    def __init__(self, start):
-        self.random = random.Random(start)
-        self.rows = [name("A", number) for number in self.random.sample(range(26000), 4)]
-        self.items = [name("a", number) for number in self.random.sample(range(26000), 4)]
-
-    def effect(self, room):
-        return [self.row(room), self.row(room)]
-
-    def row(self, room):
-        count = self.random.randrange(2 * room) if room else 0
-        return [self.random.choice(self.rows)] + [self.item(room - 1) for _ in range(count)]
-
-    def item(self, room):
-        kind = self.random.choice(["num", "bool", "var", "var", "list", "pair", "effect"] if room else ["num", "var"])
-        if kind == "var":
-            return ("var", self.random.choice(self.items))
-        if kind == "list":
-            return ("list", self.item(room - 1))
-        if kind == "pair":
-            return ("pair", self.item(room - 1), self.item(room - 1))
-        if kind == "effect":
-            return ("effect", self.effect(room - 1))
-        return (kind,)
-
-    def blank(self):
-        return "".join(self.random.choice(BLANKS) for _ in range(self.random.randrange(1, 3)))
-
-
-class Canonical:
-    def __init__(self):
-        self.rows = []
-        self.items = []
-        self.weight = 0
-
-    def variable(self, known, first, text):
-        self.weight += 1
-        if text not in known:
-            known.append(text)
-        return name(first, known.index(text))
-
-    def effect(self, effect):
-        return self.row(effect[0]) + " -- " + self.row(effect[1])
-
-    def row(self, row):
-        return " ".join([self.variable(self.rows, "A", row[0])] + [self.item(item) for item in row[1:]])
-
-    def item(self, item):
-        if item[0] == "var":
-            return self.variable(self.items, "a", item[1])
-        self.weight += 1
-        if item[0] == "list":
-            return "list(" + self.item(item[1]) + ")"
-        if item[0] == "pair":
-            return "pair(" + self.item(item[1]) + "," + self.item(item[2]) + ")"
-        if item[0] == "effect":
-            return "[" + self.effect(item[1]) + "]"
-        return item[0]
-
-
-class Plain(Canonical):
-    """Keeps every variable's own name."""
-
-    def variable(self, known, first, text):
-        return text
 
 
 class ReadAgain(FormCase):

@@ -5,7 +5,7 @@ import io
 import unittest
 
 from stackeffects.effects import judge
-from tests.helper import BUILT_IN_EFFECTS, WRAPS, CallCase, as_bytes, first_wrong, nested
+from tests.helper import BUILT_IN_EFFECTS, FAULTS, WRAPS, CallCase, as_bytes, first_wrong, nested
 
 LETTERS_AND_DIGITS = as_bytes("ABCDEFGHIJKLMNOPQRSTUVWXYZabcdefghijklmnopqrstuvwxyz0123456789")
 BLANKS = [32, 9, 10, 13]
@@ -135,20 +135,7 @@ class FaultPlace(JudgeCase):
         self.takes(" ".join(tokens))
 
     def test_first_token_that_cant_be(self):
-        for text, place in [
-            ("-- A", 0), ("num -- A", 0), ("a -- A", 0), ("( A -- A", 0), ("] A", 0), ("[A -- A]", 0), (" , A", 1),
-            ("A B -- A", 2), ("A ) -- A", 2), ("A ( -- A", 2), ("A ] -- A", 2), ("A , -- A", 2), ("A -- -- A", 5),
-            ("A -- a", 5), ("A -- [A -- A]", 5), ("A -- A -- A", 7), ("A -- A B", 7), ("A -- A ]", 7),
-            ("A -- A )", 7), ("A -- A ,", 7), ("A -- A (", 7),
-            ("A list a -- A", 7), ("A list() -- A", 7), ("A list(a b) -- A", 9), ("A list(a,b) -- A", 8),
-            ("A list(A) -- A", 7), ("A list(a] -- A", 8), ("A list[a] -- A", 6), ("A list(A -- A) -- A", 7),
-            ("A pair a -- A", 7), ("A pair(a) -- A", 8), ("A pair(a,) -- A", 9), ("A pair(,a) -- A", 7),
-            ("A pair(a,b,c) -- A", 10), ("A pair(a b) -- A", 9), ("A pair(a,b] -- A", 10),
-            ("A [a -- A] -- A", 3), ("A [] -- A", 3), ("A [A] -- A", 4), ("A [A -- ] -- A", 8), ("A [-- A] -- A", 3),
-            ("A [A -- A -- A] -- A", 10), ("A [A -- A) -- A", 9), ("A [A -- A, -- A", 9), ("A [A -- A B", 10),
-            ("A (a) -- A", 2), ("A num(a) -- A", 5), ("A a(b) -- A", 3), ("A(a) -- A", 1),
-            ("A -- A list(a) )", 15), ("A -- A [A -- A] ]", 16), ("A ? -- A !", 2),
-        ]:
+        for text, place in FAULTS:
             self.faults(text, place)
             self.faults("\n\t" + text + " ", place + 2)
 
