@@ -1,9 +1,11 @@
-"""Texts of effects: which are one effect's, where the others have their fault, and an effect's form and weight.
+"""Texts of effects: which are one effect's, where the others have their fault, an effect's form, weight and instances.
 
 A text is a list of bytes. What lies on a stack's row above its variable is called an item here.
 A token is a tuple: its kind, its number and the place of its first byte. Its kind is the token itself if it
 is one of FIXED, else "ROW" or "ITEM" for a variable, and "BAD" for what no effect's text holds. Its number
 is a variable's own, and 0 for every other token.
+A node is a tuple: for a leaf, the kind and the number of its token; for all else, a sign of PARTS and the numbers
+of the nodes that are its parts. A row is its variable alone, or a "row" of what lies below and the uppermost item.
 """
 
 LONGEST = 1024
@@ -28,10 +30,18 @@ ITEM_STARTS = {
     "[": ("]", "items", "ROW", "--", "items", "ROW"),
 }
 
+VARIABLES = ("ROW", "ITEM")
+LEAVES = ("ROW", "ITEM", "num", "bool")
+HOLDER_ENDS = (")", "]")
+ITEM_ENDS = ("ITEM", "num", "bool", ")", "]")
+
+# How many parts a node has that is no leaf.
+PARTS = {"list": 1, "pair": 2, "[": 2, "row": 2}
+
 
 def judge(t):
     """Answers 0 if t is an effect's text, else the refusal that is due."""
-    refusal = refusal_of(t)
+    refusal = refusal_of([t])
     if refusal is not None:
         return refusal
     return [0]
@@ -39,7 +49,7 @@ def judge(t):
 
 def form(t):
     """Answers 0 and the effect's text with its variables named in order, else the refusal that is due."""
-    refusal = refusal_of(t)
+    refusal = refusal_of([t])
     if refusal is not None:
         return refusal
     tokens = tokens_of(t)
@@ -51,19 +61,31 @@ def form(t):
 
 def weight(t):
     """Answers the weight of t's effect, else the refusal that is due."""
-    refusal = refusal_of(t)
+    refusal = refusal_of([t])
     if refusal is not None:
         return refusal
     return [weight_of(tokens_of(t))]
 
 
-def refusal_of(t):
-    """The refusal that is due for the text t, None if it is an effect's and not too long."""
-    if len(t) > LONGEST:
+def has(t, u):
+    """Answers 1 if u's effect is one of the instances of t's, 0 if it is none, else the refusal that is due."""
+    refusal = refusal_of([t, u])
+    if refusal is not None:
+        return refusal
+    numbers = {}
+    general = rows_of(tokens_of(t), numbers)
+    special = rows_of(tokens_of(u), numbers)
+    return [1 if comes_of(special, general, list(numbers)) else 0]
+
+
+def refusal_of(texts):
+    """The refusal that is due for these texts, None if each is an effect's and none is too long."""
+    if any([len(text) > LONGEST for text in texts]):
         return [-6]
-    place = fault_place(t)
-    if place is not None:
-        return [-1, 1, place]
+    for which, text in enumerate(texts, start=1):
+        place = fault_place(text)
+        if place is not None:
+            return [-1, which, place]
     return None
 
 
@@ -139,7 +161,7 @@ def kind_of(part):
 
 def number_of(kind, part):
     """The number of a variable with these bytes, 0 for any other kind."""
-    if kind != "ROW" and kind != "ITEM":
+    if kind not in VARIABLES:
         return 0
     rounds = 0
     for byte in part[1:]:
@@ -191,12 +213,59 @@ def written(tokens):
 
 def token_bytes(kind, number):
     """The bytes of a token of this kind with this number."""
-    if kind != "ROW" and kind != "ITEM":
+    if kind not in VARIABLES:
         return bytes_of(kind)
     letter = [first_letter(kind) + number % LETTERS]
     if number < LETTERS:
         return letter
     return letter + bytes_of(str(number // LETTERS))
+
+
+def rows_of(tokens, numbers):
+    """The numbers of the nodes of an effect's two rows; numbers, a dict, gets those nodes that it hasn't yet."""
+    built = []
+    # The items of the whole effect stand in its rows as those of an effect within [ ] do.
+    holders = ["["]
+    for kind, number, place in tokens:
+        if kind in PARTS:
+            holders.append(kind)
+        if kind in LEAVES:
+            built.append(number_in(numbers, (kind, number)))
+        if kind in HOLDER_ENDS:
+            built = joined(built, holders.pop(), numbers)
+        if kind in ITEM_ENDS and holders[-1] == "[":
+            built = joined(built, "row", numbers)
+    return built
+
+
+def joined(built, sign, numbers):
+    """What is built, with the node of this sign in the place of its parts, which were built last."""
+    first = len(built) - PARTS[sign]
+    node = tuple([sign] + built[first:])
+    return built[:first] + [number_in(numbers, node)]
+
+
+def number_in(numbers, node):
+    """The node's number: the same nodes have the same one, so that whole rows and items are compared at once."""
+    return numbers.setdefault(node, len(numbers))
+
+
+def comes_of(special, general, nodes):
+    """Whether the rows of special come of those of general when rows and items are put for general's variables."""
+    put = {}
+    pairs = list(zip(special, general))
+    while pairs != []:
+        pair = pairs.pop()
+        node = nodes[pair[0]]
+        pattern = nodes[pair[1]]
+        if pattern[0] in VARIABLES:
+            if put.setdefault(pattern, node) != node:
+                return False
+        elif pattern[0] != node[0]:
+            return False
+        elif pattern[0] in PARTS:
+            pairs.extend(list(zip(node[1:], pattern[1:])))
+    return True
 
 
 def in_run(byte):

@@ -24,14 +24,20 @@ class CallCase(unittest.TestCase):
     """Checks answers of the one function that a test file names as call."""
 
     def answers(self, text, expected):
-        given = as_bytes(text)
-        before = list(given)
-        answer = self.call(given)
-        self.assertEqual(answer, expected, text)
+        self.answers_all([text], expected)
+
+    def answers_all(self, texts, expected):
+        self.answers_lists([as_bytes(text) for text in texts], expected)
+
+    def answers_lists(self, given, expected):
+        before = [list(one) for one in given]
+        told = [bytes(one) for one in given]
+        answer = self.call(*given)
+        self.assertEqual(answer, expected, told)
         self.assertIs(type(answer), list)
-        self.assertTrue(all(type(number) is int for number in answer), text)
-        self.assertEqual(given, before, text)
-        self.assertEqual(self.call(given), expected, text)
+        self.assertTrue(all(type(number) is int for number in answer), told)
+        self.assertEqual(given, before, told)
+        self.assertEqual(self.call(*given), expected, told)
 
 
 BUILT_IN_EFFECTS = [

@@ -19,6 +19,9 @@ OWN_NAMES = """len range enumerate zip min max sum abs sorted reversed int str b
 METHODS = """append clear copy count endswith extend find get index insert isalnum isalpha isdigit islower isspace
     isupper items join keys ljust lower lstrip partition pop remove replace reverse rfind rjust rpartition rsplit rstrip
     setdefault split splitlines startswith strip update upper values zfill bit_length""".split()
+UNUSED = """register mro elements open input version_info with_traceback add_note attrgetter breakpoint builtins compile
+    copyright credits delattr dir eval exec exit gc getattr globals hasattr help id importlib license locals
+    methodcaller os quit setattr super sys type vars""".split()
 WORDS = re.compile(r"\b(type|typing|typing_extensions|enum|Enum|IntEnum|StrEnum|Flag|IntFlag|Generic|Protocol|ABC"
                    r"|ABCMeta|namedtuple|NamedTuple|TypedDict|TYPE_CHECKING|abstractmethod)\b"
                    r"|dataclass|overload|contextmanager")
@@ -109,6 +112,7 @@ class Trees(unittest.TestCase):
         for name, node in nodes():
             if isinstance(node, ast.Name):
                 self.assertFalse(node.id.startswith("_"), node.id)
+                self.assertNotIn(node.id, UNUSED)
                 if node.id in dir(builtins):
                     self.assertIn(node.id, OWN_NAMES)
                     self.assertIsInstance(node.ctx, ast.Load)
