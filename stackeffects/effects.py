@@ -1,10 +1,11 @@
-"""Texts of effects: which are one effect's, where the others have their fault, an effect's form, weight and instances.
+"""Texts of effects: which are one effect's and where the others have their fault; an effect's form, weight and
+instances; what comes of two effects, one after the other.
 
 A text is a list of bytes. What lies on a stack's row above its variable is called an item here.
 A token is a tuple: its kind, its number and the place of its first byte. Its kind is the token itself if it
 is one of FIXED, else "ROW" or "ITEM" for a variable, and "BAD" for what no effect's text holds. Its number
-is a variable's own, and 0 for every other token.
-A node is a tuple: for a leaf, the kind and the number of its token; for all else, a sign of PARTS and the numbers
+is a variable's own, and 0 for every other token. A token that was not read from a text has the place 0.
+A node is a tuple: for a leaf, the kind and the number of its token; for all else, a sign of SPELLED and the numbers
 of the nodes that are its parts. A row is its variable alone, or a "row" of what lies below and the uppermost item.
 """
 
@@ -35,8 +36,10 @@ LEAVES = ("ROW", "ITEM", "num", "bool")
 HOLDER_ENDS = (")", "]")
 ITEM_ENDS = ("ITEM", "num", "bool", ")", "]")
 
-# How many parts a node has that is no leaf.
-PARTS = {"list": 1, "pair": 2, "[": 2, "row": 2}
+# The tokens of each node that is no leaf, with the numbers of its parts, from 1, where those have their tokens.
+SPELLED = {
+    "list": ("list", "(", 1, ")"), "pair": ("pair", "(", 1, ",", 2, ")"), "[": ("[", 1, "--", 2, "]"), "row": (1, 2),
+}
 
 
 def judge(t):
@@ -55,8 +58,7 @@ def form(t):
     tokens = tokens_of(t)
     if weight_of(tokens) > HEAVIEST:
         return [-5]
-    text = written(named_in_order(tokens))
-    return [0, len(text)] + text
+    return text_answer(written(named_in_order(tokens)))
 
 
 def weight(t):
@@ -74,8 +76,32 @@ def has(t, u):
         return refusal
     numbers = {}
     general = rows_of(tokens_of(t), numbers)
-    special = rows_of(tokens_of(u), numbers)
-    return [1 if comes_of(special, general, list(numbers)) else 0]
+    fixed = len(numbers)
+    special = rows_of(kept_apart(tokens_of(u)), numbers)
+    equal = made_equal(list(zip(general, special)), list(numbers), fixed)
+    return [0 if equal is None else 1]
+
+
+def then(t, u):
+    """Answers 0 and the text of what comes of t's effect and then u's, 1 if nothing does, else the refusal due."""
+    refusal = refusal_of([t, u])
+    if refusal is not None:
+        return refusal
+    numbers = {}
+    first = rows_of(tokens_of(t), numbers)
+    second = rows_of(kept_apart(tokens_of(u)), numbers)
+    nodes = made_equal([(first[1], second[0])], list(numbers), len(numbers))
+    # The row between has no place in the answer, but a variable that stands within itself may be in it alone.
+    weights = None if nodes is None else weights_in(nodes, [first[0], first[1], second[1]])
+    if weights is None:
+        return [1]
+    if weights[first[0]] + weights[second[1]] > HEAVIEST:
+        return [-5]
+    return text_answer(written(named_in_order(spelled(nodes, [first[0], "--", second[1]]))))
+
+
+def text_answer(text):
+    return [0, len(text)] + text
 
 
 def refusal_of(texts):
@@ -143,7 +169,7 @@ def token_end(t, place):
     if t[place:place + 2] == bytes_of("--"):
         return place + 2
     end = place
-    while end < len(t) and in_run(t[end]):
+    while end < len(t) and (is_letter(t[end]) or is_digit(t[end])):
         end += 1
     # A byte that is in no run stands by itself.
     return max(end, place + 1)
@@ -227,10 +253,10 @@ def rows_of(tokens, numbers):
     # The items of the whole effect stand in its rows as those of an effect within [ ] do.
     holders = ["["]
     for kind, number, place in tokens:
-        if kind in PARTS:
+        if kind in SPELLED:
             holders.append(kind)
         if kind in LEAVES:
-            built.append(number_in(numbers, (kind, number)))
+            built.append(numbers.setdefault((kind, number), len(numbers)))
         if kind in HOLDER_ENDS:
             built = joined(built, holders.pop(), numbers)
         if kind in ITEM_ENDS and holders[-1] == "[":
@@ -240,48 +266,100 @@ def rows_of(tokens, numbers):
 
 def joined(built, sign, numbers):
     """What is built, with the node of this sign in the place of its parts, which were built last."""
-    first = len(built) - PARTS[sign]
+    first = len(built) - (1 if sign == "list" else 2)
     node = tuple([sign] + built[first:])
-    return built[:first] + [number_in(numbers, node)]
+    return built[:first] + [numbers.setdefault(node, len(numbers))]
 
 
-def number_in(numbers, node):
-    """The node's number: the same nodes have the same one, so that whole rows and items are compared at once."""
-    return numbers.setdefault(node, len(numbers))
+def kept_apart(tokens):
+    """The same tokens, with numbers below 0 for variables, which those of another text can't have."""
+    return [(kind, -1 - number if kind in VARIABLES else number, place) for kind, number, place in tokens]
 
 
-def comes_of(special, general, nodes):
-    """Whether the rows of special come of those of general when rows and items are put for general's variables."""
-    put = {}
-    pairs = list(zip(special, general))
-    while pairs != []:
-        pair = pairs.pop()
-        node = nodes[pair[0]]
-        pattern = nodes[pair[1]]
-        if pattern[0] in VARIABLES:
-            if put.setdefault(pattern, node) != node:
-                return False
-        elif pattern[0] != node[0]:
-            return False
-        elif pattern[0] in PARTS:
-            pairs.extend(list(zip(node[1:], pattern[1:])))
-    return True
+def made_equal(pairs, nodes, fixed):
+    """The node that stands for each number when both numbers of each pair are made equal, None if they can't be.
+
+    Variables with a number below fixed give way, those from there on stand for themselves. Nothing more is made
+    equal than has to be. Whether a variable would have to stand within itself is not seen here.
+    """
+    stands = {}
+    waiting = list(pairs)
+    while waiting != []:
+        pair = waiting.pop()
+        one = standing(stands, pair[0])
+        other = standing(stands, pair[1])
+        if one == other:
+            continue
+        if gives_way(nodes, one, fixed):
+            stands[one] = other
+        elif gives_way(nodes, other, fixed):
+            stands[other] = one
+        elif nodes[one][0] != nodes[other][0] or nodes[one][0] in LEAVES:
+            return None
+        else:
+            stands[one] = other
+            waiting.extend(list(zip(nodes[one][1:], nodes[other][1:])))
+    return [nodes[standing(stands, number)] for number in range(len(nodes))]
 
 
-def in_run(byte):
-    return is_letter(byte) or is_digit(byte)
+def standing(stands, number):
+    """The number that stands for this one in the end."""
+    while number in stands:
+        number = stands[number]
+    return number
+
+
+def gives_way(nodes, number, fixed):
+    return number < fixed and nodes[number][0] in VARIABLES
+
+
+def weights_in(nodes, roots):
+    """The weights of the roots and of all within them, by number; None if one of these stands within itself.
+
+    Each is weighed once: written out, they may be far too many.
+    """
+    weights = {}
+    entered = {}
+    waiting = list(roots)
+    while waiting != []:
+        number = waiting[-1]
+        sign = nodes[number][0]
+        parts = () if sign in LEAVES else nodes[number][1:]
+        missing = [part for part in parts if part not in weights]
+        if missing == []:
+            weights[number] = sum([weights[part] for part in parts]) + (0 if sign == "row" else 1)
+            waiting.pop()
+        elif number in entered:
+            return None
+        else:
+            entered[number] = True
+            waiting.extend(missing)
+    return weights
+
+
+def spelled(nodes, pieces):
+    """The tokens of these pieces, each a token's kind or a node's number."""
+    tokens = []
+    waiting = list(reversed(pieces))
+    while waiting != []:
+        piece = waiting.pop()
+        if isinstance(piece, str):
+            tokens.append((piece, 0, 0))
+        elif nodes[piece][0] in LEAVES:
+            tokens.append((nodes[piece][0], nodes[piece][1], 0))
+        else:
+            node = nodes[piece]
+            parts = [part if isinstance(part, str) else node[part] for part in SPELLED[node[0]]]
+            waiting.extend(list(reversed(parts)))
+    return tokens
 
 
 def is_letter(byte):
-    return is_capital(byte) or is_small(byte)
+    return is_capital(byte) or 97 <= byte <= 122
 
 
 def is_capital(byte):
     return 65 <= byte <= 90
-
-
-def is_small(byte):
-    return 97 <= byte <= 122
 
 
 def is_digit(byte):

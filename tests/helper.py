@@ -1,8 +1,14 @@
-"""What several test files use: texts as bytes, a check of one call, a second, recursive reader, effects at random."""
+"""What several test files use: texts as bytes, a check of one call, recursive readers, effects at random."""
 
+import inspect
+import itertools
 import random
 import re
+import signal
+import sys
 import unittest
+
+from stackeffects.effects import judge
 
 BLANKS = " \t\n\r"
 
@@ -97,6 +103,74 @@ def nested(names, inner="num"):
     opened = "".join(WRAPS[name][0] for name in names)
     closed = "".join(WRAPS[name][1] for name in reversed(names))
     return opened + inner + closed
+
+
+class RefusesTwo:
+    """The refusals of a call that takes two texts; good_answer is what it answers to GOOD twice."""
+
+    GOOD = "A a -- A"
+
+    def test_first_token_that_cant_be(self):
+        for text, place in FAULTS:
+            self.answers_all([text, self.GOOD], [-1, 1, place])
+            self.answers_all([self.GOOD, text], [-1, 2, place])
+            self.answers_all(["\n " + text + " ", self.GOOD], [-1, 1, place + 2])
+            self.answers_all([self.GOOD, "\n " + text + " "], [-1, 2, place + 2])
+
+    def test_the_places_are_those_of_judge(self):
+        texts = ["", " ", "A", "A --", "A -- \t", "A -- A)", "A nums -- A", "A a0 -- A", "A1000 -- A", "A -- A \xe9",
+                 "A " + "list(" * 41, "A " + nested(["effect, left"] * 41) + " -- A", " " * 1024, "\xff" * 1024,
+                 "A" + " a" * 511]
+        for text in texts:
+            place = judge(as_bytes(text))[2]
+            self.assertEqual(judge(as_bytes(text)), [-1, 1, place])
+            self.answers_all([text, self.GOOD], [-1, 1, place])
+            self.answers_all([self.GOOD, text], [-1, 2, place])
+
+    def test_t_comes_ahead_of_u(self):
+        self.answers_all(["A -- A )", "A -- a"], [-1, 1, 7])
+        self.answers_all(["A -- a", "A -- A )"], [-1, 1, 5])
+        self.answers_all(["A --", ""], [-1, 1, 4])
+        self.answers_all(["", "A --"], [-1, 1, 0])
+        for (t, place), (u, other) in itertools.product(FAULTS[::7], repeat=2):
+            self.answers_all([t, u], [-1, 1, place])
+
+    def test_too_long(self):
+        long = self.GOOD.ljust(1025)
+        longest = self.GOOD.ljust(1024)
+        self.answers_all([longest, longest], self.good_answer)
+        self.answers_all([long, self.GOOD], [-6])
+        self.answers_all([self.GOOD, long], [-6])
+        self.answers_all([long, long], [-6])
+        self.answers_all([longest, long], [-6])
+        self.answers_all([long, longest], [-6])
+        self.answers_all([self.GOOD.ljust(2000), self.GOOD], [-6])
+        self.answers_all([self.GOOD, self.GOOD.rjust(2000)], [-6])
+        self.answers_all(["\xff" * 2000, "list(" * 400], [-6])
+
+    def test_too_long_comes_ahead_of_every_fault(self):
+        for bad in ["", "?", "A --", "A -- A )", "A " + "list(" * 41]:
+            self.answers_all([bad, self.GOOD.ljust(1025)], [-6])
+            self.answers_all([self.GOOD.ljust(1025), bad], [-6])
+            self.answers_all([bad.ljust(1025), self.GOOD], [-6])
+            self.answers_all([self.GOOD, bad.ljust(1025)], [-6])
+            self.answers_all([bad.ljust(1025), bad.ljust(1025)], [-6])
+            self.answers_all([bad, bad.ljust(1025)], [-6])
+
+    def test_41_deep(self):
+        for wrap in WRAPS:
+            deep = "A " + nested([wrap] * 41) + " -- A"
+            place = 2 + nested([wrap] * 40, "\x01").index("\x01")
+            self.answers_all([deep, self.GOOD], [-1, 1, place])
+            self.answers_all([self.GOOD, deep], [-1, 2, place])
+            self.answers_all([deep, deep], [-1, 1, place])
+
+    def test_one_and_the_same_list(self):
+        cases = [(self.GOOD, self.good_answer), ("A a -- a", [-1, 1, 7]), ("", [-1, 1, 0]), (" " * 1025, [-6])]
+        for text, expected in cases:
+            given = as_bytes(text)
+            self.answers_lists([given, given], expected)
+            self.assertEqual(given, as_bytes(text))
 
 
 class Fault(Exception):
@@ -229,3 +303,109 @@ class Plain(Canonical):
 
     def variable(self, known, first, text):
         return text
+
+
+# From here on an effect is a tuple of two rows. A row is a tuple of its variable's name and of items; an item is
+# a name, num, bool, or a tuple of list or pair and its items, or of "effect" and two rows.
+
+
+def read(text):
+    """The effect of a text without a fault."""
+    left = tokens(text)
+    effect = read_effect(left)
+    if left:
+        raise ValueError(text)
+    return effect
+
+
+def read_effect(left):
+    lower = read_row(left)
+    left.pop(0)
+    return (lower, read_row(left))
+
+
+def read_row(left):
+    row = (left.pop(0),)
+    while left and left[0] not in ("--", "]"):
+        row += (read_item(left),)
+    return row
+
+
+def read_item(left):
+    kind = left.pop(0)
+    if kind == "[":
+        item = ("effect",) + read_effect(left)
+    elif kind in ("list", "pair"):
+        left.pop(0)
+        item = (kind, read_item(left))
+        if kind == "pair":
+            left.pop(0)
+            item += (read_item(left),)
+    else:
+        return kind
+    left.pop(0)
+    return item
+
+
+def filled(row, put):
+    return put.get(row[0], row[:1]) + tuple(filled_item(item, put) for item in row[1:])
+
+
+def filled_item(item, put):
+    if isinstance(item, str):
+        return put.get(item, item)
+    if item[0] == "effect":
+        return ("effect", filled(item[1], put), filled(item[2], put))
+    return item[:1] + tuple(filled_item(part, put) for part in item[1:])
+
+
+def text_of(effect):
+    return " -- ".join(" ".join([row[0]] + [item_text(item) for item in row[1:]]) for row in effect)
+
+
+def item_text(item):
+    if isinstance(item, str):
+        return item
+    if item[0] == "effect":
+        return "[" + text_of(item[1:]) + "]"
+    return item[0] + "(" + ",".join(item_text(part) for part in item[1:]) + ")"
+
+
+def variables_of(text):
+    """The names of a text's variables, as they are met."""
+    return [token for token in tokens(text) if re.fullmatch(r"[A-Za-z][0-9]*", token)]
+
+
+def in_order(text):
+    """The same text with its variables named in order."""
+    new = {}
+    for one in variables_of(text):
+        first = "A" if one.isupper() else "a"
+        new.setdefault(one, name(first, sum(known.isupper() == one.isupper() for known in new)))
+    return re.sub(r"[A-Za-z]+[0-9]*", lambda found: new.get(found.group(), found.group()), text)
+
+
+def weighed(text):
+    return sum(token[0].isalpha() or token == "[" for token in tokens(text))
+
+
+class Quick:
+    """Raises an error in what takes too long, and in what calls itself too deep."""
+
+    def __init__(self, seconds=20, calls=80):
+        self.seconds = seconds
+        self.calls = calls
+
+    def __enter__(self):
+        self.limit = sys.getrecursionlimit()
+        self.handler = signal.signal(signal.SIGALRM, self.stop)
+        sys.setrecursionlimit(len(inspect.stack(0)) + self.calls)
+        signal.alarm(self.seconds)
+
+    def __exit__(self, *error):
+        signal.alarm(0)
+        sys.setrecursionlimit(self.limit)
+        signal.signal(signal.SIGALRM, self.handler)
+
+    def stop(self, number, frame):
+        raise TimeoutError("it takes too long")

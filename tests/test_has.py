@@ -5,9 +5,9 @@ import io
 import itertools
 import unittest
 
-from stackeffects.effects import form, has, judge
-from tests.helper import (BLANKS, BUILT_IN_EFFECTS, FAULTS, WRAPS, CallCase, Canonical, Plain, Tree, as_bytes, name,
-                          nested, tokens)
+from stackeffects.effects import form, has
+from tests.helper import (BLANKS, BUILT_IN_EFFECTS, WRAPS, CallCase, Canonical, Plain, RefusesTwo, Tree, as_bytes,
+                          filled, name, nested, text_of, tokens)
 
 ITEMS = ["num", "bool", "a", "b", "list(num)", "list(a)", "pair(num,bool)", "pair(a,b)", "[A -- B]", "[A a -- A num]"]
 
@@ -290,7 +290,6 @@ def found_by_trying(t, u):
 
 
 def gather(row, rows, items):
-    """A row is a tuple of its variable's name and of items: names, and tuples of a kind and items or rows."""
     for count in range(1, len(row) + 1):
         rows.add(row[:count])
     for item in row[1:]:
@@ -312,30 +311,6 @@ def gather_names(row, row_names, item_names):
     gather(row, rows, items)
     row_names.update(one[0] for one in rows)
     item_names.update(item for item in items if item in ("a", "b"))
-
-
-def filled(row, put):
-    return put[row[0]] + tuple(filled_item(item, put) for item in row[1:])
-
-
-def filled_item(item, put):
-    if isinstance(item, str):
-        return put.get(item, item)
-    if item[0] == "effect":
-        return ("effect", filled(item[1], put), filled(item[2], put))
-    return item[:1] + tuple(filled_item(part, put) for part in item[1:])
-
-
-def text_of(effect):
-    return " -- ".join(" ".join([row[0]] + [item_text(item) for item in row[1:]]) for row in effect)
-
-
-def item_text(item):
-    if isinstance(item, str):
-        return item
-    if item[0] == "effect":
-        return "[" + text_of(item[1:]) + "]"
-    return item[0] + "(" + ",".join(item_text(part) for part in item[1:]) + ")"
 
 
 class ByTheDefinition(HasCase):
@@ -532,69 +507,8 @@ class Large(HasCase):
         self.no(t, taller.replace("[A num -- B]", "[A bool -- B]"))
 
 
-class Refused(HasCase):
-    GOOD = "A a -- A"
-
-    def test_first_token_that_cant_be(self):
-        for text, place in FAULTS:
-            self.answers_all([text, self.GOOD], [-1, 1, place])
-            self.answers_all([self.GOOD, text], [-1, 2, place])
-            self.answers_all(["\n " + text + " ", self.GOOD], [-1, 1, place + 2])
-            self.answers_all([self.GOOD, "\n " + text + " "], [-1, 2, place + 2])
-
-    def test_the_places_are_those_of_judge(self):
-        texts = ["", " ", "A", "A --", "A -- \t", "A -- A)", "A nums -- A", "A a0 -- A", "A1000 -- A", "A -- A \xe9",
-                 "A " + "list(" * 41, "A " + nested(["effect, left"] * 41) + " -- A", " " * 1024, "\xff" * 1024,
-                 "A" + " a" * 511]
-        for text in texts:
-            place = judge(as_bytes(text))[2]
-            self.assertEqual(judge(as_bytes(text)), [-1, 1, place])
-            self.answers_all([text, self.GOOD], [-1, 1, place])
-            self.answers_all([self.GOOD, text], [-1, 2, place])
-
-    def test_t_comes_ahead_of_u(self):
-        self.answers_all(["A -- A )", "A -- a"], [-1, 1, 7])
-        self.answers_all(["A -- a", "A -- A )"], [-1, 1, 5])
-        self.answers_all(["A --", ""], [-1, 1, 4])
-        self.answers_all(["", "A --"], [-1, 1, 0])
-        for (t, place), (u, other) in itertools.product(FAULTS[::7], repeat=2):
-            self.answers_all([t, u], [-1, 1, place])
-
-    def test_too_long(self):
-        long = self.GOOD.ljust(1025)
-        longest = self.GOOD.ljust(1024)
-        self.answers_all([longest, longest], [1])
-        self.answers_all([long, self.GOOD], [-6])
-        self.answers_all([self.GOOD, long], [-6])
-        self.answers_all([long, long], [-6])
-        self.answers_all([longest, long], [-6])
-        self.answers_all([long, longest], [-6])
-        self.answers_all([self.GOOD.ljust(2000), self.GOOD], [-6])
-        self.answers_all([self.GOOD, self.GOOD.rjust(2000)], [-6])
-        self.answers_all(["\xff" * 2000, "list(" * 400], [-6])
-
-    def test_too_long_comes_ahead_of_every_fault(self):
-        for bad in ["", "?", "A --", "A -- A )", "A " + "list(" * 41]:
-            self.answers_all([bad, self.GOOD.ljust(1025)], [-6])
-            self.answers_all([self.GOOD.ljust(1025), bad], [-6])
-            self.answers_all([bad.ljust(1025), self.GOOD], [-6])
-            self.answers_all([self.GOOD, bad.ljust(1025)], [-6])
-            self.answers_all([bad.ljust(1025), bad.ljust(1025)], [-6])
-            self.answers_all([bad, bad.ljust(1025)], [-6])
-
-    def test_41_deep(self):
-        for wrap in WRAPS:
-            deep = "A " + nested([wrap] * 41) + " -- A"
-            place = 2 + nested([wrap] * 40, "\x01").index("\x01")
-            self.answers_all([deep, self.GOOD], [-1, 1, place])
-            self.answers_all([self.GOOD, deep], [-1, 2, place])
-            self.answers_all([deep, deep], [-1, 1, place])
-
-    def test_one_and_the_same_list(self):
-        for text, expected in [("A a -- B", [1]), ("A a -- a", [-1, 1, 7]), ("", [-1, 1, 0]), (" " * 1025, [-6])]:
-            given = as_bytes(text)
-            self.answers_lists([given, given], expected)
-            self.assertEqual(given, as_bytes(text))
+class Refused(RefusesTwo, HasCase):
+    good_answer = [1]
 
 
 if __name__ == "__main__":
