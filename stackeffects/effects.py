@@ -1,5 +1,5 @@
 """Texts of effects: which are one effect's and where the others have their fault; an effect's form, weight and
-instances; what comes of two effects, one after the other.
+instances; what comes of two effects, one after the other; and the built-in words' effects.
 
 A text is a list of bytes. What lies on a stack's row above its variable is called an item here.
 A token is a tuple: its kind, its number and the place of its first byte. Its kind is the token itself if it
@@ -39,6 +39,22 @@ ITEM_ENDS = ("ITEM", "num", "bool", ")", "]")
 # The tokens of each node that is no leaf, with the numbers of its parts, from 1, where those have their tokens.
 SPELLED = {
     "list": ("list", "(", 1, ")"), "pair": ("pair", "(", 1, ",", 2, ")"), "[": ("[", 1, "--", 2, "]"), "row": (1, 2),
+}
+
+WORDS = {
+    "dup": "A a -- A a a", "drop": "A a -- A", "swap": "A a b -- A b a", "over": "A a b -- A a b a",
+    "rot": "A a b c -- A b c a",
+    "+": "A num num -- A num", "-": "A num num -- A num", "*": "A num num -- A num",
+    "/": "A num num -- A num", "mod": "A num num -- A num",
+    "=": "A num num -- A bool", "<": "A num num -- A bool",
+    "not": "A bool -- A bool", "and": "A bool bool -- A bool", "or": "A bool bool -- A bool",
+    "apply": "A [A -- B] -- B", "dip": "A a [A -- B] -- B a",
+    "if": "A bool [A -- B] [A -- B] -- B", "while": "A [A -- A bool] [A -- A] -- A",
+    "compose": "A [B -- C] [C -- D] -- A [B -- D]", "curry": "A a [B a -- C] -- A [B -- C]",
+    "unit": "A a -- A [B -- B a]", "fix": "A [B [B -- C] -- C] -- A [B -- C]",
+    "nil": "A -- A list(a)", "cons": "A a list(a) -- A list(a)",
+    "case": "A list(a) [A -- B] [A a list(a) -- B] -- B", "each": "A list(a) [A a -- A] -- A",
+    "pair": "A a b -- A pair(a,b)", "unpair": "A pair(a,b) -- A a b",
 }
 
 
@@ -98,6 +114,14 @@ def then(t, u):
     if weights[first[0]] + weights[second[1]] > HEAVIEST:
         return [-5]
     return text_answer(written(named_in_order(spelled(nodes, [first[0], "--", second[1]]))))
+
+
+def word(w):
+    """Answers 0 and the text of the effect of the built-in word w, -2 if there is no such word."""
+    for name in WORDS:
+        if bytes_of(name) == w:
+            return text_answer(bytes_of(WORDS[name]))
+    return [-2]
 
 
 def text_answer(text):

@@ -46,31 +46,34 @@ class CallCase(unittest.TestCase):
         self.assertEqual(self.call(*given), expected, told)
 
 
-BUILT_IN_EFFECTS = [
-    "A a -- A a a",
-    "A a -- A",
-    "A a b -- A b a",
-    "A a b -- A a b a",
-    "A a b c -- A b c a",
-    "A num num -- A num",
-    "A num num -- A bool",
-    "A bool -- A bool",
-    "A bool bool -- A bool",
-    "A [A -- B] -- B",
-    "A a [A -- B] -- B a",
-    "A bool [A -- B] [A -- B] -- B",
-    "A [A -- A bool] [A -- A] -- A",
-    "A [B -- C] [C -- D] -- A [B -- D]",
-    "A a [B a -- C] -- A [B -- C]",
-    "A a -- A [B -- B a]",
-    "A [B [B -- C] -- C] -- A [B -- C]",
-    "A -- A list(a)",
-    "A a list(a) -- A list(a)",
-    "A list(a) [A -- B] [A a list(a) -- B] -- B",
-    "A list(a) [A a -- A] -- A",
-    "A a b -- A pair(a,b)",
-    "A pair(a,b) -- A a b",
+# Words that have one effect, and that effect.
+BUILT_IN = [
+    ("dup", "A a -- A a a"),
+    ("drop", "A a -- A"),
+    ("swap", "A a b -- A b a"),
+    ("over", "A a b -- A a b a"),
+    ("rot", "A a b c -- A b c a"),
+    ("+ - * / mod", "A num num -- A num"),
+    ("= <", "A num num -- A bool"),
+    ("not", "A bool -- A bool"),
+    ("and or", "A bool bool -- A bool"),
+    ("apply", "A [A -- B] -- B"),
+    ("dip", "A a [A -- B] -- B a"),
+    ("if", "A bool [A -- B] [A -- B] -- B"),
+    ("while", "A [A -- A bool] [A -- A] -- A"),
+    ("compose", "A [B -- C] [C -- D] -- A [B -- D]"),
+    ("curry", "A a [B a -- C] -- A [B -- C]"),
+    ("unit", "A a -- A [B -- B a]"),
+    ("fix", "A [B [B -- C] -- C] -- A [B -- C]"),
+    ("nil", "A -- A list(a)"),
+    ("cons", "A a list(a) -- A list(a)"),
+    ("case", "A list(a) [A -- B] [A a list(a) -- B] -- B"),
+    ("each", "A list(a) [A a -- A] -- A"),
+    ("pair", "A a b -- A pair(a,b)"),
+    ("unpair", "A pair(a,b) -- A a b"),
 ]
+BUILT_IN_EFFECTS = [effect for words, effect in BUILT_IN]
+BUILT_IN_WORDS = {one: effect for words, effect in BUILT_IN for one in words.split()}
 
 # Texts that are no effect's, and the place of the first token that can't be.
 FAULTS = [
